@@ -20,8 +20,7 @@ func GetNum(b []byte, at int) (int, int, bool) {
 }
 
 func PutText(b []byte, s string) []byte {
-	out := putNums(copyWithRoom(b, maxNumBytes+len(s)), len(s))
-	return append(out, s...)
+	return addText(copyWithRoom(b, maxNumBytes+len(s)), s)
 }
 
 func GetText(b []byte, at int) (string, int, bool) {
@@ -65,6 +64,11 @@ func putNums(b []byte, ns ...int) []byte {
 		b = putGroups(b, foldSign(min(max(n, -MaxInt), MaxInt)))
 	}
 	return b
+}
+
+// addText grows b itself, so b has to be the program's own.
+func addText(b []byte, s string) []byte {
+	return append(putNums(b, len(s)), s...)
 }
 
 func putGroups(b []byte, folded int) []byte {
