@@ -40,15 +40,7 @@ func Crc(b []byte) int {
 }
 
 func NameOk(s string) bool {
-	if len(s) < 1 || len(s) > 12 || !isSmall(s[0]) {
-		return false
-	}
-	for i := range len(s) {
-		if !isWordByte(s[i]) {
-			return false
-		}
-	}
-	return true
+	return len(s) >= 1 && len(s) <= 12 && isSmall(s[0]) && allBytes(s, isWordByte)
 }
 
 // copyWithRoom keeps whatever is put behind b out of the caller's memory.
@@ -118,6 +110,15 @@ func turnByte(sum uint32, c byte) uint32 {
 		}
 	}
 	return sum
+}
+
+func allBytes(s string, are func(byte) bool) bool {
+	for i := range len(s) {
+		if !are(s[i]) {
+			return false
+		}
+	}
+	return true
 }
 
 func isSmall(c byte) bool { return 'a' <= c && c <= 'z' }
