@@ -268,21 +268,27 @@ func TestPatternKindsAreNames(t *testing.T) {
 
 func TestPatTexts(t *testing.T) {
 	x, one := avar("X"), aval(num(1))
-	for s, p := range map[string]impl.Pat{
+	checkTexts(t, impl.PatText, map[string]impl.Pat{
 		"a()": pat("a"), "!a()": notPat("a"), "a(X)": pat("a", x), "!a(X)": notPat("a", x), "a(_)": pat("a", aany()), "!a(_)": notPat("a", aany()), "a(1)": pat("a", one), "a(-1)": pat("a", aval(num(-1))), "a('')": pat("a", aval(txt(""))), "a('x')": pat("a", aval(txt("x"))),
 		"a(0, '0')":         pat("a", aval(num(0)), aval(txt("0"))),
 		"a(X, 1, X, _, Y)":  pat("a", x, one, x, aany(), avar("Y")),
 		"!a(X, 1, X, _, Y)": notPat("a", x, one, x, aany(), avar("Y")),
 		"!b(_, _, _, _, _)": notPat("b", aany(), aany(), aany(), aany(), aany()),
 		twelve + "(" + twelveVar + ", '" + twenty + "', -1000000000, 1000000000)": pat(twelve, avar(twelveVar), aval(txt(twenty)), aval(num(-impl.MaxInt)), aval(num(impl.MaxInt))),
-	} {
-		if got := impl.PatText(p); got != s {
-			t.Errorf("%v: %q, not %q", p, got, s)
+	}, wrongPats())
+}
+
+// checkTexts wants of each what it stands by in right, and nothing of what is wrong.
+func checkTexts[T any](t *testing.T, textOf func(T) string, right map[string]T, wrong map[string]T) {
+	t.Helper()
+	for want, x := range right {
+		if got := textOf(x); got != want {
+			t.Errorf("%v: %q, not %q", x, got, want)
 		}
 	}
-	for why, p := range wrongPats() {
-		if s := impl.PatText(p); s != "" {
-			t.Errorf("%s: %q", why, s)
+	for why, x := range wrong {
+		if got := textOf(x); got != "" {
+			t.Errorf("%s: %q", why, got)
 		}
 	}
 }
@@ -715,12 +721,7 @@ func guardedPat(p impl.Pat) (impl.Pat, func() bool) {
 
 // patsAndFacts are patterns with facts that they match and others, and with what is bound ahead.
 func patsAndFacts(check func(p impl.Pat, f impl.Fact, l []impl.Bind)) {
-	pats := goodPats()
-	wrong := wrongPats()
-	for _, why := range sortedKeys(wrong) {
-		pats = append(pats, wrong[why])
-	}
-	for _, p := range pats {
+	for _, p := range append(goodPats(), inOrder(wrongPats())...) {
 		facts := []impl.Fact{{}, fact(p.Kind), fact(p.Kind, slices.Repeat([]impl.Val{num(1)}, len(p.Args))...), fact(p.Kind, slices.Repeat([]impl.Val{txt("a")}, len(p.Args))...)}
 		for _, f := range facts {
 			for _, l := range boundAhead() {

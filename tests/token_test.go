@@ -47,10 +47,14 @@ func textsOfTokens() map[string]impl.Token {
 
 // goodTokens are those of textsOfTokens, in one order at every call.
 func goodTokens() []impl.Token {
-	var l []impl.Token
-	texts := textsOfTokens()
-	for _, s := range sortedKeys(texts) {
-		l = append(l, texts[s])
+	return inOrder(textsOfTokens())
+}
+
+// inOrder are a map's values in the order of its keys, so that a test goes the same way each time.
+func inOrder[V any](m map[string]V) []V {
+	var l []V
+	for _, key := range sortedKeys(m) {
+		l = append(l, m[key])
 	}
 	return l
 }
@@ -572,11 +576,7 @@ func TestJoinTokensOfMoreThanMayBeRead(t *testing.T) {
 }
 
 func TestJoinTokensWritesIntoNoArgument(t *testing.T) {
-	wrong := wrongTokens()
-	all := goodTokens()
-	for _, why := range sortedKeys(wrong) {
-		all = append(all, wrong[why])
-	}
+	all := append(goodTokens(), inOrder(wrongTokens())...)
 	was := slices.Clone(all)
 	for n := range all {
 		got := impl.JoinTokens(all[:n])
