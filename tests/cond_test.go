@@ -73,20 +73,15 @@ func TestSignsOfConditions(t *testing.T) {
 }
 
 func TestCondOk(t *testing.T) {
+	var right []impl.Cond
 	for _, op := range allOps() {
 		for _, l := range sides() {
 			for _, r := range sides() {
-				if c := cond(op, l, r); !impl.CondOk(c) {
-					t.Errorf("%v may be", c)
-				}
+				right = append(right, cond(op, l, r))
 			}
 		}
 	}
-	for why, c := range wrongConds() {
-		if impl.CondOk(c) {
-			t.Errorf("%s: %v may not be", why, c)
-		}
-	}
+	checkOks(t, impl.CondOk, right, wrongConds())
 }
 
 func TestCondOkOfEachOp(t *testing.T) {
@@ -128,18 +123,20 @@ func TestCondTexts(t *testing.T) {
 	}, wrongConds())
 }
 
+// textInPat is what a pattern's text has of its argument.
+func textInPat(a impl.Arg) string {
+	return strings.TrimSuffix(strings.TrimPrefix(impl.PatText(pat("a", a)), "a("), ")")
+}
+
 // A condition's text is the texts that a pattern has of its two arguments, with its sign between.
 func TestCondTextsOfEachTwoSides(t *testing.T) {
-	textOf := func(a impl.Arg) string {
-		return strings.TrimSuffix(strings.TrimPrefix(impl.PatText(pat("a", a)), "a("), ")")
-	}
 	seen := map[string]bool{}
 	count := 0
 	for _, op := range allOps() {
 		for _, l := range sides() {
 			for _, r := range sides() {
 				got := impl.CondText(cond(op, l, r))
-				if want := textOf(l) + " " + signText(op) + " " + textOf(r); got != want {
+				if want := textInPat(l) + " " + signText(op) + " " + textInPat(r); got != want {
 					t.Errorf("%d, %v, %v: %q, not %q", op, l, r, got, want)
 				}
 				seen[got] = true
@@ -404,23 +401,27 @@ func TestHoldsOfArgumentsWithMoreThanTheirKindNames(t *testing.T) {
 	checkHolds(t, false, cond(impl.CSame, manyX, manyOne), nil)
 }
 
+// thereOf are all values that an argument may stand for, the one that counts ahead.
+func thereOf(a impl.Arg, l []impl.Bind) []impl.Val {
+	var there []impl.Val
+	if a.K == impl.AVal {
+		there = append(there, a.V)
+	}
+	for _, b := range l {
+		if a.K == impl.AVar && b.Name == a.S {
+			there = append(there, b.V)
+		}
+	}
+	return there
+}
+
 // holdsByRows tells what holds by one row of what may be, for each Op.
 func holdsByRows(c impl.Cond, l []impl.Bind) bool {
-	var there [2][]impl.Val
-	for i, a := range [2]impl.Arg{c.L, c.R} {
-		if a.K == impl.AVal {
-			there[i] = []impl.Val{a.V}
-		}
-		for _, b := range l {
-			if a.K == impl.AVar && b.Name == a.S {
-				there[i] = append(there[i], b.V)
-			}
-		}
-	}
-	if len(there[0]) == 0 || len(there[1]) == 0 {
+	left, right := thereOf(c.L, l), thereOf(c.R, l)
+	if len(left) == 0 || len(right) == 0 {
 		return false
 	}
-	a, b := there[0][0], there[1][0]
+	a, b := left[0], right[0]
 	row := [3]bool{a == b, a != b, impl.LessVal(a, b)}
 	return c.Op >= 1 && c.Op <= 3 && row[c.Op-1]
 }

@@ -83,16 +83,7 @@ func wideFacts() []impl.Fact {
 }
 
 func TestFactOk(t *testing.T) {
-	for _, f := range goodFacts() {
-		if !impl.FactOk(f) {
-			t.Errorf("%v may be", f)
-		}
-	}
-	for why, f := range wrongFacts() {
-		if impl.FactOk(f) {
-			t.Errorf("%s: %v may not be", why, f)
-		}
-	}
+	checkOks(t, impl.FactOk, goodFacts(), wrongFacts())
 	for _, v := range goodVals() {
 		if !impl.FactOk(fact("a", v)) || !impl.FactOk(fact("a", num(1), num(1), num(1), num(1), v)) {
 			t.Errorf("%v may be a field", v)

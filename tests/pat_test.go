@@ -175,18 +175,7 @@ func TestKindsOfArguments(t *testing.T) {
 	}
 }
 
-func TestArgOk(t *testing.T) {
-	for _, a := range goodArgs() {
-		if !impl.ArgOk(a) {
-			t.Errorf("%v may be", a)
-		}
-	}
-	for why, a := range wrongArgs() {
-		if impl.ArgOk(a) {
-			t.Errorf("%s: %v may not be", why, a)
-		}
-	}
-}
+func TestArgOk(t *testing.T) { checkOks(t, impl.ArgOk, goodArgs(), wrongArgs()) }
 
 func TestVariablesAreThoseOfTokens(t *testing.T) {
 	for c := range 256 {
@@ -220,18 +209,11 @@ func TestArgOkOfEachMixture(t *testing.T) {
 }
 
 func TestPatOk(t *testing.T) {
+	checkOks(t, impl.PatOk, goodPats(), wrongPats())
 	for _, p := range goodPats() {
-		if !impl.PatOk(p) {
-			t.Errorf("%v may be", p)
-		}
 		p.Not = !p.Not
 		if !impl.PatOk(p) {
 			t.Errorf("%v may be", p)
-		}
-	}
-	for why, p := range wrongPats() {
-		if impl.PatOk(p) {
-			t.Errorf("%s: %v may not be", why, p)
 		}
 	}
 }

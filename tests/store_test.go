@@ -104,18 +104,7 @@ func TestMaxItems(t *testing.T) {
 	}
 }
 
-func TestStoreOk(t *testing.T) {
-	for i, s := range goodStores() {
-		if !impl.StoreOk(s) {
-			t.Errorf("%d: %v may be", i, s)
-		}
-	}
-	for why, s := range wrongStores() {
-		if impl.StoreOk(s) {
-			t.Errorf("%s may not be", why)
-		}
-	}
-}
+func TestStoreOk(t *testing.T) { checkOks(t, impl.StoreOk, goodStores(), wrongStores()) }
 
 func TestStoresOfNoughtTo42Items(t *testing.T) {
 	for n := range 43 {

@@ -68,18 +68,22 @@ func TestKindsOfValues(t *testing.T) {
 	}
 }
 
-func TestValOk(t *testing.T) {
-	for _, v := range goodVals() {
-		if !impl.ValOk(v) {
-			t.Errorf("%v may be", v)
+// checkOks wants all that are right to be, and nothing of what is wrong.
+func checkOks[T any](t *testing.T, isOk func(T) bool, right []T, wrong map[string]T) {
+	t.Helper()
+	for _, x := range right {
+		if !isOk(x) {
+			t.Errorf("%v may be", x)
 		}
 	}
-	for why, v := range wrongVals() {
-		if impl.ValOk(v) {
-			t.Errorf("%s: %v may not be", why, v)
+	for why, x := range wrong {
+		if isOk(x) {
+			t.Errorf("%s: %v may not be", why, x)
 		}
 	}
 }
+
+func TestValOk(t *testing.T) { checkOks(t, impl.ValOk, goodVals(), wrongVals()) }
 
 func TestValOkByteByByte(t *testing.T) {
 	const right = "abcdefghijklmnopqrstuvwxyz0123456789_"
