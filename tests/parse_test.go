@@ -1,6 +1,7 @@
 package tests
 
 import (
+	"cmp"
 	"fmt"
 	"math/rand/v2"
 	"reflect"
@@ -669,6 +670,8 @@ func eachList(v reflect.Value, check func(l reflect.Value)) {
 		for i := range v.NumField() {
 			eachList(v.Field(i), check)
 		}
+	case reflect.Interface:
+		eachList(v.Elem(), check)
 	case reflect.Slice:
 		check(v)
 		for i := range v.Len() {
@@ -677,33 +680,35 @@ func eachList(v reflect.Value, check func(l reflect.Value)) {
 	}
 }
 
-// No two lists of two answers lie in the same memory, and nothing lies behind their ends.
-func TestListsOfParsedDefsShareNoMemory(t *testing.T) {
+// checkOwnLists wants that no two lists of all these answers lie in the same memory, and that nothing lies behind their ends.
+func checkOwnLists(t *testing.T, why string, least int, answers ...any) {
+	t.Helper()
 	type room struct{ from, to uintptr }
-	for _, text := range []string{richText, shortTexts()[2], impl.DefText(wordDef("task")), impl.DefText(defOfTokens(3000))} {
-		one, two := mustParse(t, text), mustParse(t, text)
-		var rooms []room
-		for _, d := range []impl.Def{one, two} {
-			eachList(reflect.ValueOf(d), func(l reflect.Value) {
-				for i, all := l.Len(), l.Slice(0, l.Cap()); i < all.Len(); i++ {
-					if !all.Index(i).IsZero() {
-						t.Errorf("%v lies behind %v", all.Index(i), l)
-					}
-				}
-				if l.Cap() > 0 {
-					rooms = append(rooms, room{l.Pointer(), l.Pointer() + uintptr(l.Cap())*l.Type().Elem().Size()})
-				}
-			})
-		}
-		slices.SortFunc(rooms, func(a room, b room) int { return int(a.from) - int(b.from) })
-		for i := 1; i < len(rooms); i++ {
-			if rooms[i-1].to > rooms[i].from {
-				t.Errorf("%.80q: two lists share memory", text)
+	var rooms []room
+	eachList(reflect.ValueOf(answers), func(l reflect.Value) {
+		for i, all := l.Len(), l.Slice(0, l.Cap()); i < all.Len(); i++ {
+			if !all.Index(i).IsZero() {
+				t.Errorf("%s: %v lies behind %v", why, all.Index(i), l)
 			}
 		}
-		if len(rooms) < 10 {
-			t.Error(len(rooms))
+		if l.Cap() > 0 {
+			rooms = append(rooms, room{l.Pointer(), l.Pointer() + uintptr(l.Cap())*l.Type().Elem().Size()})
 		}
+	})
+	slices.SortFunc(rooms, func(a room, b room) int { return cmp.Compare(a.from, b.from) })
+	for i := 1; i < len(rooms); i++ {
+		if rooms[i-1].to > rooms[i].from {
+			t.Errorf("%s: two lists share memory", why)
+		}
+	}
+	if len(rooms) < least {
+		t.Errorf("%s: %d lists", why, len(rooms))
+	}
+}
+
+func TestListsOfParsedDefsShareNoMemory(t *testing.T) {
+	for _, text := range []string{richText, shortTexts()[2], impl.DefText(wordDef("task")), impl.DefText(defOfTokens(3000))} {
+		checkOwnLists(t, text[:min(20, len(text))], 10, mustParse(t, text), mustParse(t, text))
 	}
 }
 
