@@ -248,16 +248,18 @@ func cloneDef(d impl.Def) impl.Def {
 	return d
 }
 
-// eachBend hands on d with one part alone bent: a number, a text or a flag that is another one, a list that is longer or shorter by one.
-func eachBend(d impl.Def, check func(where string, bent impl.Def)) {
-	d = cloneDef(d)
+func eachBend(d impl.Def, check func(where string, bent impl.Def)) { eachBendOf(d, cloneDef, check) }
+
+// eachBendOf hands on d with one part alone bent: a number, a text or a flag that is another one, a list that is longer or shorter by one.
+func eachBendOf[T any](d T, clone func(T) T, check func(where string, bent T)) {
+	d = clone(d)
 	var walk func(where string, v reflect.Value)
 	walk = func(where string, v reflect.Value) {
 		was := reflect.New(v.Type()).Elem()
 		was.Set(v)
 		try := func(how string, x any) {
 			v.Set(reflect.ValueOf(x))
-			check(where+how, cloneDef(d))
+			check(where+how, clone(d))
 			v.Set(was)
 		}
 		switch v.Kind() {
